@@ -1,0 +1,126 @@
+"""The names, arguments and examples of the interface, and what holds for all functions (point 1)."""
+
+import copy
+import inspect
+import unittest
+from importlib import import_module
+
+import schemebound
+from schemebound.errors import InvalidNotation, InvalidScheme, UnknownPoint
+from schemebound.notation import format_scheme, parse_scheme
+from schemebound.numbers import numbers_of, valencies, ways_for
+from schemebound.schemes import (
+    check_point, checked, is_scheme, kind_count, kind_of, kind_table, part_count, point_count, point_of_set,
+    point_of_word, set_at, word_at,
+)
+
+FUNCTIONS = {
+    "schemes": {
+        "is_scheme": "(tree)", "checked": "(tree)", "point_count": "(tree)", "kind_count": "(tree)",
+        "part_count": "(tree)", "kind_of": "(tree, x, y)", "check_point": "(tree, point)", "kind_table": "(tree)",
+        "word_at": "(tree, point)", "set_at": "(tree, point)", "point_of_word": "(tree, word)",
+        "point_of_set": "(tree, members)",
+    },
+    "notation": {"format_scheme": "(tree)", "parse_scheme": "(text)"},
+    "numbers": {"valencies": "(tree)", "ways_for": "(tree, i, j, k)", "numbers_of": "(tree, k)"},
+}
+CLASSES = (
+    "SchemeboundError", "InvalidScheme", "InvalidLot", "InvalidQuestion", "NothingToUndo", "NothingToRedo",
+    "UnknownPoint", "UnknownName", "InvalidNotation", "InvalidPaper", "TooMany", "NameInUse",
+)
+
+
+class Names(unittest.TestCase):
+    def test_functions_are_defined_where_they_are_listed(self):
+        for module_name, functions in FUNCTIONS.items():
+            module = import_module("schemebound." + module_name)
+            for name, arguments in functions.items():
+                with self.subTest(name):
+                    function = getattr(module, name)
+                    self.assertTrue(inspect.isfunction(function))
+                    self.assertEqual(function.__module__, module.__name__)
+                    self.assertEqual(function.__name__, name)
+                    self.assertEqual(str(inspect.signature(function)), arguments)
+
+    def test_classes_are_defined_where_they_are_listed(self):
+        module = import_module("schemebound.errors")
+        for name in CLASSES:
+            with self.subTest(name):
+                self.assertTrue(inspect.isclass(getattr(module, name)))
+                self.assertEqual(getattr(module, name).__module__, "schemebound.errors")
+
+    def test_the_package_itself_defines_nothing(self):
+        with open(schemebound.__file__, encoding="utf-8") as file:
+            self.assertEqual(file.read().strip(), "")
+
+
+class Examples(unittest.TestCase):
+    def test_schemes(self):
+        tree = ("product", ("sets", 20, 4), ("words", 3, 10))
+        self.assertEqual((point_count(tree), kind_count(tree), kind_of(tree, 0, 1012)), (4845000, 20, 6))
+        self.assertEqual((set_at(("sets", 5, 2), 4), point_of_set(("sets", 5, 2), [2, 1]),
+                          word_at(("words", 3, 10), 47)), ((1, 2), 4, (0, 4, 7)))
+        self.assertEqual(kind_table(("listed", [[0, 1], [1, 0]])), ((0, 1), (1, 0)))
+        with self.assertRaises(UnknownPoint):
+            kind_of(("sets", 4, 2), 0, 6)
+
+    def test_notation(self):
+        self.assertEqual(format_scheme(("product", ("words", 2, 3), ("listed", [[0, 1], [1, 0]]))),
+                         "scheme\nproduct\nwords 2 3\nlisted 2\nrow 0 1\nrow 1 0")
+        self.assertEqual(parse_scheme("scheme\nsets 6 3"), ("sets", 6, 3))
+        with self.assertRaises(InvalidNotation):
+            parse_scheme("scheme\nproduct\nsets 6 3")
+        with self.assertRaises(InvalidScheme):
+            parse_scheme("scheme\nlisted 2\nrow 0 1")
+
+    def test_numbers(self):
+        self.assertEqual((valencies(("words", 3, 2)), ways_for(("words", 1, 3), 1, 1, 1), numbers_of(("sets", 4, 2), 2)),
+                         ((1, 3, 3, 1), 1, ((0, 0, 1), (0, 4, 0), (1, 0, 0))))
+
+
+class Arguments(unittest.TestCase):
+    def test_arguments_stay_as_they_were(self):
+        rows = [[0, 1, 2, 2], [1, 0, 2, 2], [2, 2, 0, 1], [2, 2, 1, 0]]
+        listed = ("listed", rows)
+        faulty = ("listed", [[0, 1, 1], [1, 0, 2], [1, 2, 0]])
+        product = ("product", listed, ("product", listed, ("words", 1, 2)))
+        word, members = [2, 0, 1], [3, 1, 2]
+        kept = copy.deepcopy((listed, faulty, product, word, members))
+        for tree in (listed, product):
+            is_scheme(tree)
+            checked(tree)
+            point_count(tree)
+            kind_count(tree)
+            part_count(tree)
+            kind_of(tree, 1, 3)
+            check_point(tree, 3)
+            kind_table(tree)
+            format_scheme(tree)
+            valencies(tree)
+            ways_for(tree, 1, 2, 2)
+            numbers_of(tree, 2)
+        is_scheme(faulty)
+        is_scheme(("product", faulty, listed))
+        point_of_word(("words", 3, 3), word)
+        point_of_set(("sets", 6, 3), members)
+        self.assertEqual((listed, faulty, product, word, members), kept)
+
+    def test_nothing_that_is_returned_hangs_on_the_argument(self):
+        rows = [[0, 1], [1, 0]]
+        tree = ("product", ("listed", rows), ("words", 1, 2))
+        found = (checked(tree), kind_table(("listed", rows)), valencies(tree), numbers_of(tree, 1))
+        kept = copy.deepcopy(found)
+        rows[0][0] = rows[1][1] = 5
+        rows.pop()
+        self.assertEqual(found, kept)
+
+    def test_the_same_call_answers_the_same(self):
+        tree = ("product", ("listed", [[0, 1], [1, 0]]), ("sets", 4, 2))
+        self.assertEqual(numbers_of(tree, 3), numbers_of(tree, 3))
+        self.assertEqual(format_scheme(tree), format_scheme(tree))
+        self.assertFalse(is_scheme(("listed", [[0, 1], [1, 1]])))
+        self.assertTrue(is_scheme(tree))
+
+
+if __name__ == "__main__":
+    unittest.main()
