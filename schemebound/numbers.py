@@ -2,9 +2,9 @@
 
 from schemebound.errors import InvalidQuestion
 from schemebound.integers import choose, is_integer, power
-from schemebound.listings import MOST_LISTED_KINDS, way_counts
 from schemebound.points import kinds_of
 from schemebound.schemes import checked
+from schemebound.tables import MOST_LISTED_KINDS, way_counts
 
 
 def require_kind(tree, kind):
@@ -85,6 +85,11 @@ def part_numbers(tree, k):
         tuple([one * other for one in row for other in beside])
         for row in part_numbers(tree[1], k // lower_kinds) for beside in lower
     ])
+
+
+def all_numbers(tree):
+    """The list, for each k, of the tables of the numbers for i, j and k, of a tree that has been checked."""
+    return [part_numbers(tree, k) for k in range(kinds_of(tree))]
 
 
 def valencies(tree):

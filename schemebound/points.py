@@ -29,10 +29,17 @@ def kinds_of(tree):
     return kinds_of(tree[1]) * kinds_of(tree[2])
 
 
+def require_points(tree, points):
+    """Raise UnknownPoint with the first of the points that the scheme does not have."""
+    many = points_of(tree)
+    for point in points:
+        if not is_integer(point) or not 0 <= point < many:
+            raise UnknownPoint(point)
+
+
 def require_point(tree, point):
     """Raise UnknownPoint unless the scheme has the point."""
-    if not is_integer(point) or not 0 <= point < points_of(tree):
-        raise UnknownPoint(point)
+    require_points(tree, [point])
 
 
 def figures_at(many, base, point):
@@ -88,33 +95,32 @@ def told_at(tree, point):
 def kind_of_told(tree, one, other):
     """The kind of two words told by their figures, or of two sets told by their members."""
     if tree[0] == "words":
-        return sum(1 for figure, beside in zip(one, other) if figure != beside)
+        return len([1 for figure, beside in zip(one, other) if figure != beside])
     return tree[2] - len(set(one) & set(other))
+
+
+def kind_rows(tree, some, others):
+    """The list, for each one of some points, of the list of its kinds with other points."""
+    sort = tree[0]
+    if sort == "listed":
+        return [[tree[1][x][y] for y in others] for x in some]
+    if sort == "product":
+        size = points_of(tree[2])
+        kinds = kinds_of(tree[2])
+        upper = kind_rows(tree[1], [x // size for x in some], [y // size for y in others])
+        lower = kind_rows(tree[2], [x % size for x in some], [y % size for y in others])
+        return [[i * kinds + j for i, j in zip(row, beside)] for row, beside in zip(upper, lower)]
+    # Each point is told once, not once for each pair: to tell it takes longer than to compare it.
+    told = [told_at(tree, y) for y in others]
+    return [[kind_of_told(tree, one, other) for other in told] for one in [told_at(tree, x) for x in some]]
 
 
 def kind_between(tree, x, y):
     """The kind of two points."""
-    sort = tree[0]
-    if sort == "listed":
-        return tree[1][x][y]
-    if sort == "product":
-        size = points_of(tree[2])
-        first = kind_between(tree[1], x // size, y // size)
-        return first * kinds_of(tree[2]) + kind_between(tree[2], x % size, y % size)
-    return kind_of_told(tree, told_at(tree, x), told_at(tree, y))
+    return kind_rows(tree, [x], [y])[0][0]
 
 
 def table_of(tree):
     """The tuple of the rows of kinds of all points."""
-    sort = tree[0]
-    if sort == "listed":
-        return tree[1]
-    if sort == "product":
-        kinds = kinds_of(tree[2])
-        lower = table_of(tree[2])
-        return tuple([
-            tuple([i * kinds + j for i in row for j in beside])
-            for row in table_of(tree[1]) for beside in lower
-        ])
-    told = [told_at(tree, point) for point in range(points_of(tree))]
-    return tuple([tuple([kind_of_told(tree, one, other) for other in told]) for one in told])
+    points = list(range(points_of(tree)))
+    return tuple([tuple(row) for row in kind_rows(tree, points, points)])

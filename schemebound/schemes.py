@@ -2,11 +2,11 @@
 
 from schemebound.errors import InvalidQuestion, InvalidScheme
 from schemebound.integers import are_integers
-from schemebound.listings import is_listing
 from schemebound.points import (
     figures_at, kind_between, kinds_of, members_at, place_of_figures, place_of_members, points_of, require_point,
     table_of,
 )
+from schemebound.tables import table_fault
 
 MOST_PARTS = 8
 MOST_KINDS = 60
@@ -24,7 +24,7 @@ def is_part(part):
         return False
     sort = part[0]
     if sort == "listed":
-        return len(part) == 2 and is_listing(part[1])
+        return len(part) == 2 and table_fault(part[1]) is None
     if len(part) != 3:
         return False
     if sort == "words":

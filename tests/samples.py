@@ -155,3 +155,28 @@ def is_table_of_scheme(table):
     if {kind for row in table for kind in row} != set(range(kinds)):
         return False
     return counted_numbers(table) is not None
+
+
+def has_whole_eigenvalues(tree):
+    """Whether a scheme of these samples has whole eigenvalues: of the listed ones, circles of 5 and 15 points do not."""
+    if tree[0] == "product":
+        return has_whole_eigenvalues(tree[1]) and has_whole_eigenvalues(tree[2])
+    return tree not in (PENTAGON, EIGHT_KINDS)
+
+
+def switched(tree, kinds):
+    """The listed tree with other numbers for the kinds."""
+    return ("listed", tuple(tuple(kinds[kind] for kind in row) for row in tree[1]))
+
+
+# Listed schemes with whole eigenvalues, also such that the first kinds do not part all spaces.
+LISTED_WHOLE = (
+    ONE_POINT, PAIR, CUBE_OF_KINDS, TRIANGLE_PAIR, ROWS_24, circle(6, lambda distance: distance),
+    switched(circle(6, lambda distance: distance), (0, 3, 2, 1)), switched(TRIANGLE_PAIR, (0, 2, 1)),
+    switched(CUBE_OF_KINDS, (0, 7, 3, 5, 1, 2, 6, 4)),
+)
+
+# Two points of a torus of four by four are near if their difference is one of six.
+SHRIKHANDE = ("listed", tuple(
+    tuple(0 if x == y else 1 if ((x // 4 - y // 4) % 4, (x - y) % 4) in
+          {(0, 1), (0, 3), (1, 0), (3, 0), (1, 1), (3, 3)} else 2 for y in range(16)) for x in range(16)))

@@ -6,13 +6,20 @@ import unittest
 from importlib import import_module
 
 import schemebound
+from schemebound.bounds import bounds_from, greatest_size, linear_bound
+from schemebound.classes import merged_fault, mergings
+from schemebound.eigenvalues import dual_eigenvalues, eigenvalues, multiplicities
 from schemebound.errors import InvalidNotation, InvalidScheme, UnknownPoint
+from schemebound.greatest import greatest, lot_counts
+from schemebound.lots import dual_shares, least_kind, shares, shares_of_others, strength
 from schemebound.notation import format_scheme, parse_scheme
 from schemebound.numbers import numbers_of, valencies, ways_for
 from schemebound.schemes import (
     check_point, checked, is_scheme, kind_count, kind_of, kind_table, part_count, point_count, point_of_set,
     point_of_word, set_at, word_at,
 )
+from schemebound.summing import holds_sums, moved, right_angles, spanned
+from schemebound.tables import table_fault
 
 FUNCTIONS = {
     "schemes": {
@@ -23,6 +30,36 @@ FUNCTIONS = {
     },
     "notation": {"format_scheme": "(tree)", "parse_scheme": "(text)"},
     "numbers": {"valencies": "(tree)", "ways_for": "(tree, i, j, k)", "numbers_of": "(tree, k)"},
+    "tables": {"table_fault": "(rows)"},
+    "classes": {
+        "merged_fault": "(tree, classes)", "is_merging": "(tree, classes)", "merged_valencies": "(tree, classes)",
+        "merged_numbers": "(tree, classes, which)", "merged_scheme": "(tree, classes)",
+        "mergings": "(tree, *, limit=1000)",
+    },
+    "eigenvalues": {
+        "eigenvalues": "(tree)", "eigenvalue": "(tree, space, kind)", "multiplicities": "(tree)",
+        "dual_eigenvalues": "(tree)", "check_eigenvalues": "(tree, rows)", "krein": "(tree, i, j, k)",
+    },
+    "lots": {
+        "pair_counts": "(tree, lot)", "shares": "(tree, lot)", "kinds_in": "(tree, lot)", "dual_shares": "(tree, lot)",
+        "silent_spaces": "(tree, lot)", "strength": "(tree, lot)", "least_kind": "(tree, lot)",
+        "duals_from": "(tree, size, some)", "shares_from": "(tree, size, duals)", "seen_from": "(tree, lot, point)",
+        "is_even": "(tree, lot)", "others_of": "(tree, lot)", "shares_of_others": "(tree, size, some)",
+    },
+    "summing": {
+        "moved": "(tree, lot, point)", "holds_sums": "(tree, lot)", "spanned": "(tree, lot, *, limit=500)",
+        "right_angles": "(tree, lot)",
+    },
+    "names": {"is_name": "(text)"},
+    "greatest": {
+        "is_allowed": "(tree, kinds, points)", "fitting": "(tree, kinds, points)", "grown": "(tree, kinds, points)",
+        "lots": "(tree, kinds, many, *, limit=20000)", "lot_counts": "(tree, kinds, *, limit=200000)",
+        "greatest": "(tree, kinds, *, limit=200000)",
+    },
+    "bounds": {
+        "linear_bound": "(tree, allowed)", "greatest_size": "(tree, allowed)", "best_shares": "(tree, allowed)",
+        "best_weights": "(tree, allowed)", "bounds_from": "(tree)",
+    },
 }
 CLASSES = (
     "SchemeboundError", "InvalidScheme", "InvalidLot", "InvalidQuestion", "NothingToUndo", "NothingToRedo",
@@ -76,6 +113,42 @@ class Examples(unittest.TestCase):
     def test_numbers(self):
         self.assertEqual((valencies(("words", 3, 2)), ways_for(("words", 1, 3), 1, 1, 1), numbers_of(("sets", 4, 2), 2)),
                          ((1, 3, 3, 1), 1, ((0, 0, 1), (0, 4, 0), (1, 0, 0))))
+
+    def test_tables(self):
+        self.assertEqual((table_fault([[0, 1], [1, 0]]), table_fault([[0, 1, 1], [1, 0, 2], [1, 2, 0]])),
+                         (None, ("number", 1, 2, 1, 0)))
+
+    def test_classes(self):
+        self.assertEqual((mergings(("words", 3, 2)), merged_fault(("words", 3, 2), [[0], [1, 2], [3]]) is None), (
+            [((0,), (1,), (2,), (3,)), ((0,), (1, 2), (3,)), ((0,), (1, 2, 3)), ((0,), (1, 3), (2,))], True))
+
+    def test_eigenvalues(self):
+        self.assertEqual((eigenvalues(("words", 2, 3)), multiplicities(("words", 2, 3))),
+                         ([(1, 4, 4), (1, 1, -2), (1, -2, 1)], (1, 4, 4)))
+        self.assertEqual((eigenvalues(("sets", 4, 2)), multiplicities(("sets", 4, 2))),
+                         ([(1, 4, 1), (1, 0, -1), (1, -2, 1)], (1, 3, 2)))
+        self.assertEqual(dual_eigenvalues(("sets", 4, 2)), [
+            ((1, 1), (3, 1), (2, 1)), ((1, 1), (0, 1), (-1, 1)), ((1, 1), (-3, 1), (2, 1))])
+
+    def test_lots(self):
+        tree, lot = ("words", 3, 2), [0, 3, 5, 6]
+        self.assertEqual((shares(tree, lot), dual_shares(tree, lot), strength(tree, lot), least_kind(tree, lot)),
+                         (((1, 1), (0, 1), (3, 1), (0, 1)), ((1, 1), (0, 1), (0, 1), (1, 1)), 2, 2))
+        self.assertEqual(shares_of_others(tree, 1, [(1, 1), (0, 1), (0, 1), (0, 1)]),
+                         ((1, 1), (18, 7), (18, 7), (6, 7)))
+
+    def test_summing(self):
+        tree = ("words", 3, 2)
+        self.assertEqual((spanned(tree, [3, 5]), right_angles(tree, [3, 5]), moved(tree, [0, 3], 1),
+                          holds_sums(tree, [0, 3])), ((0, 3, 5, 6), (0, 7), (1, 2), True))
+
+    def test_greatest(self):
+        self.assertEqual((greatest(("words", 3, 2), [2, 3]), lot_counts(("sets", 4, 2), [1])),
+                         ([0, 3, 5, 6], [1, 6, 12, 8]))
+
+    def test_bounds(self):
+        self.assertEqual((linear_bound(("words", 2, 3), [2]), bounds_from(("words", 2, 2)),
+                          greatest_size(("words", 3, 2), (2,))), ((3, 1), [(4, 1), (2, 1)], 4))
 
 
 class Arguments(unittest.TestCase):

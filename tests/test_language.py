@@ -137,6 +137,29 @@ class Language(unittest.TestCase):
                         self.assertNotIsInstance(node.value, (float, complex))
                         self.assertNotIn("%", str(node.value))
 
+    def test_exponents_and_stars(self):
+        for path, _, tree in SOURCES:
+            for node in ast.walk(tree):
+                with self.subTest(path.name, node=ast.dump(node)[:200]):
+                    if isinstance(node, ast.BinOp) and isinstance(node.op, ast.Pow):
+                        self.assertIsInstance(node.right, ast.Constant)
+                        self.assertTrue(0 <= node.right.value <= 64)
+                    if isinstance(node, ast.Call):
+                        for one in node.args:
+                            if isinstance(one, ast.Starred):
+                                self.assertIsInstance(one.value, ast.Name)
+
+    def test_library_names_are_only_called(self):
+        for path, _, tree in SOURCES:
+            taken = {alias.name for node in imports_of(tree) if node.module in LIBRARY for alias in node.names}
+            called = [node.func for node in ast.walk(tree) if isinstance(node, ast.Call)]
+            read = [node for node in ast.walk(tree) if isinstance(node, ast.Name) and node.id in taken]
+            with self.subTest(path.name):
+                self.assertEqual([node.id for node in read if node not in called], [])
+                for node in ast.walk(tree):
+                    if isinstance(node, ast.Call) and node.func in read:
+                        self.assertEqual(node.keywords, [])
+
     def test_barred_words(self):
         for path, text, _ in SOURCES:
             code = re.sub(r"#[^\n]*", "", re.sub(r'"""(.|\n)*?"""', "", text))

@@ -3,13 +3,26 @@
 import unittest
 from itertools import product
 
+from schemebound.bounds import best_shares, best_weights, bounds_from, greatest_size, linear_bound
+from schemebound.classes import (
+    is_merging, merged_fault, merged_numbers, merged_scheme, merged_valencies, mergings,
+)
+from schemebound.eigenvalues import (
+    check_eigenvalues, dual_eigenvalues, eigenvalue, eigenvalues, krein, multiplicities,
+)
 from schemebound.errors import InvalidScheme
+from schemebound.greatest import fitting, greatest, grown, is_allowed, lot_counts, lots
+from schemebound.lots import (
+    dual_shares, duals_from, is_even, kinds_in, least_kind, others_of, pair_counts, seen_from, shares, shares_from,
+    shares_of_others, silent_spaces, strength,
+)
 from schemebound.notation import format_scheme
 from schemebound.numbers import numbers_of, valencies, ways_for
 from schemebound.schemes import (
     check_point, checked, is_scheme, kind_count, kind_of, kind_table, part_count, point_count, point_of_set,
     point_of_word, set_at, word_at,
 )
+from schemebound.summing import holds_sums, moved, right_angles, spanned
 
 import samples
 
@@ -19,6 +32,21 @@ WITH_A_TREE = (
     lambda tree: kind_of(tree, -1, -1), lambda tree: check_point(tree, -1), lambda tree: word_at(tree, -1),
     lambda tree: set_at(tree, -1), lambda tree: point_of_word(tree, (-1,)), lambda tree: point_of_set(tree, (-1,)),
     lambda tree: ways_for(tree, -1, -1, -1), lambda tree: numbers_of(tree, -1),
+    lambda tree: merged_fault(tree, []), lambda tree: is_merging(tree, []), lambda tree: merged_valencies(tree, []),
+    lambda tree: merged_numbers(tree, [], -1), lambda tree: merged_scheme(tree, []), lambda tree: mergings(tree, limit=0),
+    eigenvalues, multiplicities, dual_eigenvalues, lambda tree: eigenvalue(tree, -1, -1),
+    lambda tree: check_eigenvalues(tree, []), lambda tree: krein(tree, -1, -1, -1),
+    lambda tree: pair_counts(tree, [-1, -1]), lambda tree: shares(tree, []), lambda tree: kinds_in(tree, [-1]),
+    lambda tree: dual_shares(tree, [-1]), lambda tree: silent_spaces(tree, []), lambda tree: strength(tree, [-1]),
+    lambda tree: least_kind(tree, []), lambda tree: duals_from(tree, 0, []), lambda tree: shares_from(tree, 0, []),
+    lambda tree: seen_from(tree, [], -1), lambda tree: is_even(tree, [-1]), lambda tree: others_of(tree, []),
+    lambda tree: shares_of_others(tree, 0, []), lambda tree: moved(tree, [], -1), lambda tree: holds_sums(tree, []),
+    lambda tree: spanned(tree, [-1], limit=0), lambda tree: right_angles(tree, []),
+    lambda tree: is_allowed(tree, [0], [-1]), lambda tree: fitting(tree, [0], [-1]), lambda tree: grown(tree, [0], [-1]),
+    lambda tree: lots(tree, [0], -1, limit=0), lambda tree: lot_counts(tree, [0], limit=0),
+    lambda tree: greatest(tree, [0], limit=0), lambda tree: linear_bound(tree, [0]),
+    lambda tree: greatest_size(tree, [0]), lambda tree: best_shares(tree, [0]), lambda tree: best_weights(tree, [0]),
+    bounds_from,
 )
 
 
