@@ -5,32 +5,12 @@ over its multiplicity: the eigenvalues of the kinds, each times its unknown, add
 the condition of a space is its weight times its multiplicity.
 """
 
-from schemebound.eigenvalues import multiplicities_of, rows_of
-from schemebound.errors import InvalidQuestion
-from schemebound.integers import are_integers
+from schemebound.eigenvalues import multiplicities_of
+from schemebound.judging import checked_for_bounds, require_allowed_kinds
 from schemebound.numbers import part_valencies
 from schemebound.points import kinds_of
 from schemebound.ratios import reduced
-from schemebound.schemes import checked
 from schemebound.simplex import Tableau
-
-MOST_BOUND_KINDS = 30
-
-
-def checked_for_bounds(tree):
-    """The tree as tuples and the rows of eigenvalues, if its scheme is one that has linear bounds."""
-    scheme = checked(tree)
-    if kinds_of(scheme) > MOST_BOUND_KINDS:
-        raise InvalidQuestion("the scheme has too many kinds")
-    return scheme, rows_of(scheme)
-
-
-def require_allowed_kinds(tree, allowed):
-    """Raise InvalidQuestion unless these are different kinds of the scheme from 1 on."""
-    if not are_integers(allowed) or not all(1 <= kind < kinds_of(tree) for kind in allowed):
-        raise InvalidQuestion("these kinds cannot be allowed")
-    if len(set(allowed)) != len(allowed):
-        raise InvalidQuestion("a kind is allowed twice")
 
 
 def tableau_of(tree, rows):

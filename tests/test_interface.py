@@ -11,6 +11,8 @@ from schemebound.classes import merged_fault, mergings
 from schemebound.eigenvalues import dual_eigenvalues, eigenvalues, multiplicities
 from schemebound.errors import InvalidNotation, InvalidScheme, UnknownPoint
 from schemebound.greatest import greatest, lot_counts
+from schemebound.judging import are_shares, shows_bound, weights_bound
+from schemebound.library import Library
 from schemebound.lots import dual_shares, least_kind, shares, shares_of_others, strength
 from schemebound.notation import format_scheme, parse_scheme
 from schemebound.numbers import numbers_of, valencies, ways_for
@@ -18,6 +20,7 @@ from schemebound.schemes import (
     check_point, checked, is_scheme, kind_count, kind_of, kind_table, part_count, point_count, point_of_set,
     point_of_word, set_at, word_at,
 )
+from schemebound.session import Session
 from schemebound.summing import holds_sums, moved, right_angles, spanned
 from schemebound.tables import table_fault
 
@@ -60,11 +63,31 @@ FUNCTIONS = {
         "linear_bound": "(tree, allowed)", "greatest_size": "(tree, allowed)", "best_shares": "(tree, allowed)",
         "best_weights": "(tree, allowed)", "bounds_from": "(tree)",
     },
+    "library": {"decide": "(asked, tree, numbers)"},
+    "commands": {"split_words": "(line)", "is_command": "(words)"},
+    "judging": {
+        "weights_bound": "(tree, allowed, weights)", "are_shares": "(tree, allowed, shares)",
+        "shows_bound": "(tree, allowed, weights, shares)",
+    },
 }
-CLASSES = (
-    "SchemeboundError", "InvalidScheme", "InvalidLot", "InvalidQuestion", "NothingToUndo", "NothingToRedo",
-    "UnknownPoint", "UnknownName", "InvalidNotation", "InvalidPaper", "TooMany", "NameInUse",
-)
+CLASSES = {
+    "errors": (
+        "SchemeboundError", "InvalidScheme", "InvalidLot", "InvalidQuestion", "NothingToUndo", "NothingToRedo",
+        "UnknownPoint", "UnknownName", "InvalidNotation", "InvalidPaper", "TooMany", "NameInUse",
+    ),
+    "library": ("Library",),
+    "session": ("Session",),
+}
+METHODS = {
+    Library: {
+        "__init__": "(self)", "set_scheme": "(self, name, tree)", "product": "(self, name, one, other)",
+        "list_out": "(self, name, one)", "remove_scheme": "(self, name)", "ask": "(self, name, asked, one, numbers)",
+        "drop": "(self, name)", "undo": "(self)", "redo": "(self)", "change_all": "(self, changes)",
+        "scheme_names": "(self)", "question_names": "(self)", "scheme": "(self, name)", "question": "(self, name)",
+        "answer": "(self, name)", "answers": "(self)",
+    },
+    Session: {"__init__": "(self)", "run": "(self, text)"},
+}
 
 
 class Names(unittest.TestCase):
@@ -80,11 +103,25 @@ class Names(unittest.TestCase):
                     self.assertEqual(str(inspect.signature(function)), arguments)
 
     def test_classes_are_defined_where_they_are_listed(self):
-        module = import_module("schemebound.errors")
-        for name in CLASSES:
-            with self.subTest(name):
-                self.assertTrue(inspect.isclass(getattr(module, name)))
-                self.assertEqual(getattr(module, name).__module__, "schemebound.errors")
+        for module_name, names in CLASSES.items():
+            module = import_module("schemebound." + module_name)
+            for name in names:
+                with self.subTest(name):
+                    self.assertTrue(inspect.isclass(getattr(module, name)))
+                    self.assertEqual(getattr(module, name).__module__, module.__name__)
+
+    def test_methods_are_defined_in_the_classes_themselves(self):
+        for owner, methods in METHODS.items():
+            for name, arguments in methods.items():
+                with self.subTest(owner, name=name):
+                    self.assertTrue(inspect.isfunction(vars(owner)[name]))
+                    self.assertEqual(str(inspect.signature(vars(owner)[name])), arguments)
+
+    def test_attributes_are_set_when_objects_are_created(self):
+        library, session = Library(), Session()
+        self.assertEqual((library.decided, library.kept), (0, 0))
+        self.assertIsInstance(session.library, Library)
+        self.assertIsNot(Session().library, session.library)
 
     def test_the_package_itself_defines_nothing(self):
         with open(schemebound.__file__, encoding="utf-8") as file:
@@ -149,6 +186,20 @@ class Examples(unittest.TestCase):
     def test_bounds(self):
         self.assertEqual((linear_bound(("words", 2, 3), [2]), bounds_from(("words", 2, 2)),
                           greatest_size(("words", 3, 2), (2,))), ((3, 1), [(4, 1), (2, 1)], 4))
+
+    def test_session(self):
+        session = Session()
+        self.assertEqual(
+            session.run("scheme w\nwords 3 2\nend\nask g greatest w 2 3\nask b bound w 2 3\nask k kind w 0 7\nanswers"),
+            ["ok", "ok", "ok", "ok", "ok", "b: bound 4 1", "g: greatest 4", "k: kind 3"])
+
+    def test_judging(self):
+        tree = ("words", 2, 2)
+        self.assertEqual((weights_bound(tree, [2], [(1, 1), (0, 1), (2, 2)]),
+                          weights_bound(tree, [2], [(1, 1), (1, 1), (0, 1)])), (None, (3, 1)))
+        self.assertEqual((are_shares(tree, [2], [(1, 1), (0, 1), (1, 1)]),
+                          are_shares(tree, [2], [(1, 1), (1, 1), (0, 1)])), (True, False))
+        self.assertIs(shows_bound(tree, [2], [(1, 1), (1, 2), (0, 1)], [(1, 1), (0, 1), (1, 1)]), True)
 
 
 class Arguments(unittest.TestCase):

@@ -42,6 +42,8 @@ def bound_names(tree):
             yield node.id
         elif isinstance(node, (ast.FunctionDef, ast.ClassDef)):
             yield node.name
+        elif isinstance(node, ast.ExceptHandler) and node.name:
+            yield node.name
         if isinstance(node, (ast.FunctionDef, ast.Lambda)):
             yield from names_of_arguments(node)
 
@@ -159,6 +161,30 @@ class Language(unittest.TestCase):
                 for node in ast.walk(tree):
                     if isinstance(node, ast.Call) and node.func in read:
                         self.assertEqual(node.keywords, [])
+
+    def test_handlers_name_errors_of_the_package(self):
+        own = {node.name for path, _, tree in SOURCES if path.stem == "errors" for node in tree.body
+               if isinstance(node, ast.ClassDef)}
+        for path, _, tree in SOURCES:
+            for function in [node for node in ast.walk(tree) if isinstance(node, ast.FunctionDef)]:
+                handlers = [node for node in ast.walk(function) if isinstance(node, ast.ExceptHandler)]
+                with self.subTest(path.name, function=function.name):
+                    self.assertLessEqual({node.type.id for node in handlers}, own)
+                    named = [node.name for node in handlers if node.name]
+                    self.assertEqual(len(named), len(set(named)))
+                    stored = {node.id for node in ast.walk(function)
+                              if isinstance(node, ast.Name) and isinstance(node.ctx, ast.Store)}
+                    self.assertFalse(set(named) & (stored | set(names_of_arguments(function))))
+
+    def test_methods_are_called_where_they_stand(self):
+        methods = {item.name for _, _, tree in SOURCES for node in tree.body if isinstance(node, ast.ClassDef)
+                   for item in node.body if isinstance(item, ast.FunctionDef)}
+        for path, _, tree in SOURCES:
+            called = [node.func for node in ast.walk(tree) if isinstance(node, ast.Call)]
+            for node in ast.walk(tree):
+                if isinstance(node, ast.Attribute) and node.attr in methods:
+                    with self.subTest(path.name, name=node.attr):
+                        self.assertIn(node, called)
 
     def test_barred_words(self):
         for path, text, _ in SOURCES:
