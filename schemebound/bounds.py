@@ -32,6 +32,14 @@ def bound_of(tableau):
     return reduced(tableau.bottom + tableau.value(), tableau.bottom)
 
 
+def weights_of(tree, tableau):
+    """The tuple of the weights that a tableau has reached: the prices, each over the multiplicity of its space."""
+    found = [(1, 1)]
+    for dimensions, price in zip(multiplicities_of(tree)[1:], tableau.prices()):
+        found.append(reduced(price, dimensions * tableau.bottom))
+    return tuple(found)
+
+
 def linear_bound(tree, allowed):
     """The linear bound for allowed kinds."""
     return bound_of(solved(tree, allowed)[1])
@@ -55,10 +63,7 @@ def best_shares(tree, allowed):
 def best_weights(tree, allowed):
     """A tuple of right weights that show the linear bound."""
     scheme, tableau = solved(tree, allowed)
-    found = [(1, 1)]
-    for dimensions, price in zip(multiplicities_of(scheme)[1:], tableau.prices()):
-        found.append(reduced(price, dimensions * tableau.bottom))
-    return tuple(found)
+    return weights_of(scheme, tableau)
 
 
 def bounds_from(tree):

@@ -27,12 +27,12 @@ def format_scheme(tree):
     return "\n".join(["scheme"] + tree_lines(checked(tree)))
 
 
-def is_written_number(word):
-    """Whether a word is an integer as it is written."""
+def is_written_number(word, most=MOST_DIGITS):
+    """Whether a word is an integer as it is written, with so many digits at most."""
     if word == "0":
         return True
     # isdigit alone takes digits of other scripts, too.
-    return len(word) <= MOST_DIGITS and word.isascii() and word.isdigit() and word[0] != "0"
+    return len(word) <= most and word.isascii() and word.isdigit() and word[0] != "0"
 
 
 def read_line(line, at):

@@ -9,13 +9,15 @@ import schemebound
 from schemebound.bounds import bounds_from, greatest_size, linear_bound
 from schemebound.classes import merged_fault, mergings
 from schemebound.eigenvalues import dual_eigenvalues, eigenvalues, multiplicities
-from schemebound.errors import InvalidNotation, InvalidScheme, UnknownPoint
+from schemebound.errors import InvalidNotation, InvalidPaper, InvalidQuestion, InvalidScheme, UnknownPoint
 from schemebound.greatest import greatest, lot_counts
 from schemebound.judging import are_shares, shows_bound, weights_bound
 from schemebound.library import Library
 from schemebound.lots import dual_shares, least_kind, shares, shares_of_others, strength
 from schemebound.notation import format_scheme, parse_scheme
 from schemebound.numbers import numbers_of, valencies, ways_for
+from schemebound.perfect import ball_size, ball_zeros, can_be_perfect, is_perfect
+from schemebound.renaming import kinds_renamed, listed, renamed
 from schemebound.schemes import (
     check_point, checked, is_scheme, kind_count, kind_of, kind_table, part_count, point_count, point_of_set,
     point_of_word, set_at, word_at,
@@ -23,6 +25,7 @@ from schemebound.schemes import (
 from schemebound.session import Session
 from schemebound.summing import holds_sums, moved, right_angles, spanned
 from schemebound.tables import table_fault
+from schemebound.texts import check_greatest, check_weights_text, lot_text, parse_weights, weights_text
 
 FUNCTIONS = {
     "schemes": {
@@ -68,6 +71,24 @@ FUNCTIONS = {
     "judging": {
         "weights_bound": "(tree, allowed, weights)", "are_shares": "(tree, allowed, shares)",
         "shows_bound": "(tree, allowed, weights, shares)",
+    },
+    "texts": {
+        "lot_text": "(tree, lot)", "parse_lot": "(tree, text)", "weights_text": "(tree, allowed)",
+        "parse_weights": "(text)", "check_weights_text": "(tree, allowed, text)",
+        "check_greatest": "(tree, allowed, lot, text)",
+    },
+    "renaming": {
+        "listed": "(tree)", "same_kinds": "(one, other)", "renamed": "(tree, names)", "kinds_renamed": "(tree, names)",
+        "undone": "(names)",
+    },
+    "perfect": {
+        "ball_size": "(tree, radius)", "ball_divides": "(tree, radius)", "ball_zeros": "(tree, radius)",
+        "can_be_perfect": "(tree, radius)", "is_perfect": "(tree, lot, radius)", "reach": "(tree, lot)",
+        "loud_spaces": "(tree, lot)",
+    },
+    "designs": {
+        "design_number": "(tree, lot, strength, *, limit=20000)", "is_design": "(tree, lot, strength, *, limit=20000)",
+        "are_apart": "(tree, one, other)", "room_beside": "(tree, lot)",
     },
 }
 CLASSES = {
@@ -200,6 +221,31 @@ class Examples(unittest.TestCase):
         self.assertEqual((are_shares(tree, [2], [(1, 1), (0, 1), (1, 1)]),
                           are_shares(tree, [2], [(1, 1), (1, 1), (0, 1)])), (True, False))
         self.assertIs(shows_bound(tree, [2], [(1, 1), (1, 2), (0, 1)], [(1, 1), (0, 1), (1, 1)]), True)
+
+    def test_texts(self):
+        self.assertEqual(lot_text(("words", 3, 2), [7, 0]), "lot\npoint 7\npoint 0")
+        self.assertEqual(weights_text(("words", 1, 2), []), "bound 1 1\nweight 1 1\nweight 0 1")
+        tree = ("words", 2, 2)
+        self.assertEqual(
+            (check_weights_text(tree, [2], "bound 4 2\nweight 1 1\nweight 1 2\nweight 0 1"),
+             check_greatest(tree, [2], [0, 3], "bound 2 1\nweight 1 1\nweight 1 2\nweight 0 1")), (True, True))
+        with self.assertRaises(InvalidPaper):
+            parse_weights("bound 1 0")
+
+    def test_renaming(self):
+        tree = ("words", 2, 2)
+        self.assertEqual(listed(tree), ("listed", ((0, 1, 1, 2), (1, 0, 2, 1), (1, 2, 0, 1), (2, 1, 1, 0))))
+        self.assertEqual((renamed(tree, [1, 0, 2, 3])[1][0], kinds_renamed(tree, [0, 2, 1])[1][0]),
+                         ((0, 1, 2, 1), (0, 2, 2, 1)))
+        with self.assertRaises(InvalidQuestion):
+            renamed(("words", 5, 2), [])
+
+    def test_perfect(self):
+        tree = ("words", 7, 2)
+        self.assertEqual((ball_size(tree, 1), ball_zeros(tree, 1), can_be_perfect(tree, 1)), (8, [4], True))
+        self.assertIs(is_perfect(("words", 3, 2), [0, 7], 1), True)
+        self.assertEqual((ball_size(("words", 23, 2), 3), can_be_perfect(("words", 23, 2), 3),
+                          can_be_perfect(("words", 6, 2), 1)), (2048, True, False))
 
 
 class Arguments(unittest.TestCase):

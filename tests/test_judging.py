@@ -82,7 +82,7 @@ class Judged(unittest.TestCase):
     def test_what_the_search_finds_is_right(self):
         chance = random.Random(1)
         for tree in WHOLE + GREAT:
-            for allowed in some_allowed(tree, chance, 3):
+            for allowed in some_allowed(tree, chance, 2):
                 weights, found = best_weights(tree, allowed), best_shares(tree, allowed)
                 with self.subTest(tree, allowed=allowed):
                     self.assertEqual(weights_bound(tree, allowed, weights), linear_bound(tree, allowed))

@@ -138,6 +138,19 @@ class Lines(unittest.TestCase):
             self.assertEqual(session.run(f"ask {name} points s0\nanswer {name}"), [
                 "line 1: invalid command", "line 2: invalid command"])
 
+    def test_names_that_are_words_of_commands(self):
+        words = ("scheme", "product", "list", "remove", "ask", "drop", "answer", "answers", "print", "schemes", "questions",
+                 "undo", "redo", "end", "points", "kind", "greatest", "bound", "words", "row")
+        for word in words:
+            session = begun(CUBE)
+            self.assertEqual(session.run(text_of(
+                *block_of(word, samples.PAIR), f"print {word}", f"ask {word} points {word}", f"answer {word}",
+                f"product p s0 {word}", f"list s0 {word}", f"drop {word}", f"remove {word}", f"print {word}", f"answer {word}",
+                f"product {word} s0 s0", f"ask {word} kind {word} 0 1", "answers", "schemes", "questions")), [
+                    "ok", "ok", "scheme", "listed 2", "row 0 1", "row 1 0", "ok", f"{word}: points 2", "ok", "ok", "ok", "ok",
+                    f"line 13: unknown name {word}", f"line 14: unknown name {word}", "ok", "ok", f"{word}: kind 1",
+                    " ".join(["schemes:"] + sorted(["p", "s0", word])), f"questions: {word}"])
+
     def test_errors_of_commands(self):
         session = begun(CUBE, ("words", 1, 101), ("words", 1, 100), ("words", 20, 1000))
         session.run("ask q points s0")
